@@ -25,6 +25,26 @@ def erase(w, i):
     return [4, w, i]
 
 
+def opening(w, mode=0, order=0, lo=0, hi=TOP):
+    return [5, w, mode, order, lo, hi]
+
+
+def onward(w, r=0, n=20):
+    return [6, w, r, n]
+
+
+def backward(w, r=0, n=20):
+    return [7, w, r, n]
+
+
+def left(w, r=0):
+    return [8, w, r]
+
+
+def close(w, r=0):
+    return [9, w, r]
+
+
 def joined(calls):
     return [number for call in calls for number in call]
 
@@ -47,3 +67,29 @@ def firsts(*calls):
     if len(parts) != len(calls) + 1 or parts[0] != [0]:
         raise AssertionError(f"not an answer for each call: {parts}")
     return [part[0] for part in parts[1:]]
+
+
+def behind(before, *calls):
+    """What each call answers behind a begin and the calls before, of which none may be refused."""
+    parts = answered(begin(), *before, *calls)
+    if len(parts) != 1 + len(before) + len(calls):
+        raise AssertionError(f"not an answer for each call: {parts}")
+    if any(part[0] < 0 for part in parts[:1 + len(before)]):
+        raise AssertionError(f"a call that came before was refused: {parts}")
+    return parts[1 + len(before):]
+
+
+def told(*rows):
+    """The answer of next or back that tells these rows, each an id, an a and a b."""
+    return [len(rows), *joined(rows)]
+
+
+def rows_of(answer):
+    """The rows that an answer of next or back tells."""
+    if answer[0] < 0 or len(answer) != 1 + 3 * answer[0]:
+        raise AssertionError(f"not rows: {answer}")
+    return [tuple(answer[k:k + 3]) for k in range(1, len(answer), 3)]
+
+
+def ids_of(answer):
+    return [row[0] for row in rows_of(answer)]

@@ -5,19 +5,29 @@ from unittest import mock
 
 import maysee.lists
 from maysee.lists import Board, answer_of, answers
-from tests.calls import TOP, add, begin, change, drop, erase, joined
+from tests.calls import (
+    TOP, add, answered, backward, begin, change, close, drop, erase, joined, left, onward, opening)
+from tests.words import all_answers
 
 ALL_KINDS = joined([
     begin(), add(3, 1, 2, 3), add(16), change(3, 0, 4, 5, 6), change(2, 0), drop(3, 0), drop(3, 0),
-    erase(3, 0), erase(3, 0), begin(), add(15, TOP, TOP, 65535),
+    erase(3, 0), erase(3, 0), begin(), add(15, TOP, TOP, 65535), add(4, 7, 8),
+    opening(4, 1, 3), opening(4, 2), onward(4, 0, 20), onward(4, 0, 0), onward(4, 0, 1), backward(4, 0, 1),
+    backward(5, 0, 1), left(4, 0), left(4, 1), close(4, 0), close(4, 0),
 ])
-ALL_KINDS_TOLD = [1, 0, 1, 0, 1, -22, 1, 0, 1, -1, 1, 0, 1, -2, 1, 0, 1, -17, 1, 0, 1, 0]
+ALL_KINDS_TOLD = [
+    1, 0, 1, 0, 1, -22, 1, 0, 1, -1, 1, 0, 1, -2, 1, 0, 1, -17, 1, 0, 1, 0, 1, 1,
+    1, 0, 1, -22, 7, 2, 0, TOP, TOP, 1, 7, 8, 1, -22, 1, 0, 4, 1, 1, 7, 8,
+    1, -1, 1, 1, 1, -2, 1, 0, 1, -2,
+]
 
 
 class Interface(unittest.TestCase):
     def test_the_numbers_as_the_document_writes_them(self):
         calls = [0, 1, 7, 10, 20, 3, 2, 7, 0, 11, 21, 5, 3, 7, 0, 4, 7, 0]
         self.assertEqual(answers(calls), [1, 0, 1, 0, 1, 0, 1, 0, 1, 0])
+        calls = [0, 1, 7, 10, 20, 3, 5, 7, 0, 1, 10, 10, 6, 7, 0, 1, 7, 7, 0, 1, 8, 7, 0, 9, 7, 0]
+        self.assertEqual(answers(calls), [1, 0, 1, 0, 1, 0, 4, 1, 0, 10, 20, 4, 1, 0, 10, 20, 1, 1, 1, 0])
 
     def test_the_order_of_a_calls_numbers(self):
         self.assertEqual(answers([0, 1, 15, 16, 16, 0]), [1, 0, 1, 0])
@@ -25,6 +35,8 @@ class Interface(unittest.TestCase):
         self.assertEqual(answers([0, 1, 9, 0, 0, 0, 2, 9, 0, 65536, 65536, 0]), [1, 0, 1, 0, 1, 0])
         self.assertEqual(answers([0, 1, 9, 0, 0, 0, 3, 0, 9]), [1, 0, 1, 0, 1, -2])
         self.assertEqual(answers([0, 1, 9, 0, 0, 0, 4, 0, 9]), [1, 0, 1, 0, 1, -2])
+        self.assertEqual(answers([0, 5, 9, 1, 3, 16, 17, 6, 0, 9, 1]), [1, 0, 1, 0, 1, -2])
+        self.assertEqual(answers([0, 5, 9, 1, 3, 16, 17, 6, 9, 0, 20, 7, 9, 0, 20]), [1, 0, 1, 0, 1, 0, 1, 0])
 
     def test_a_things_numbers_are_those_of_the_call(self):
         board = Board()
@@ -106,6 +118,28 @@ class Long(unittest.TestCase):
     def test_400_calls_of_the_longest_kind(self):
         calls = joined([begin(), add(15)] + [change(15, 0, TOP, TOP, 65535)] * 398)
         self.assertEqual(answers(calls), [1, 0] * 400)
+
+    def test_400_calls_with_all_ten_in_it(self):
+        calls = [begin()] + [add(k % 16, k % 7, TOP - k % 5, 65535) for k in range(64)]
+        calls += [opening(k, k % 2, k % 4, 0, 5) for k in range(8)]
+        for k in range(40):
+            calls += [onward(k % 8, k % 8, 4), change(k % 16, k, k % 3, k, k), left(k % 8, k % 8), drop(k % 16, k),
+                      backward(k % 8, k % 8, 1), erase(k % 16, k), close(k % 8, 8 if k % 9 else k % 8)]
+        calls += [begin(), add(0), opening(0)]
+        calls += [onward(0, 0, 20)] * (400 - len(calls))
+        self.assertEqual(len(calls), 400)
+        self.assertEqual({call[0] for call in calls}, set(range(10)))
+        self.assertLessEqual(len(joined(calls)), 3000)
+        parts = answered(*calls)
+        self.assertEqual(parts, all_answers(calls))
+        self.assertGreater(len([part for part in parts if len(part) > 1]), 40)
+
+    def test_400_calls_that_tell_the_most(self):
+        calls = [begin()] + [add(1, TOP, k) for k in range(20)] + [opening(1, 1, 1)]
+        calls += [onward(1), backward(1)] * 189
+        parts = answered(*calls)
+        self.assertEqual(len(parts), 400)
+        self.assertEqual(parts[22:], [[20, *joined([(k, TOP, k) for k in range(20)])]] * 378)
 
     def test_400_begins(self):
         self.assertEqual(answers([0] * 400), [1, 0] * 400)
